@@ -1,0 +1,1 @@
+"""Rowmend: rows of lines, their changes, and two hands on one row."""
