@@ -5,6 +5,20 @@ def size_of(change):
     return sum([len(block[1]) + len(block[2]) for block in change if block[0] == "swap"])
 
 
+# How many lines a block has in the row ahead of the change.
+def kept_and_cut(block):
+    if block[0] == "keep":
+        return block[1]
+    return len(block[1])
+
+
+# How many lines a block has in the row behind the change.
+def kept_and_put(block):
+    if block[0] == "keep":
+        return block[1]
+    return len(block[2])
+
+
 # A walk along a row finds a change in small parts, some of them empty and many of one kind side by side.
 # Only here are they brought into the form of a change, so that no walk has to look after it.
 def tidied(parts):

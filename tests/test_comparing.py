@@ -1,13 +1,10 @@
 import time
 import unittest
 
-from helper import (all_rows, edge_pairs, has_pairs_in_order, has_pairs_in_order_fast, is_change, is_count, kept_by,
-                    large_pairs, like_pairs, mixed_row, moved_by, parts_of, row_behind)
+from helper import (SECONDS, all_rows, edge_pairs, has_pairs_in_order, has_pairs_in_order_fast, is_change, is_count,
+                    kept_by, large_pairs, like_pairs, mixed_row, moved_by, parts_of, row_behind)
 from rowmend.blocks import size_of
 from rowmend.comparing import change_of, cover
-
-# Far more than is needed, so that only a way of comparing that is hopeless for such rows takes longer.
-SECONDS = 20
 
 
 def small_rows():

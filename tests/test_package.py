@@ -13,7 +13,7 @@ class PackageTest(unittest.TestCase):
 
     def test_the_files_are_found(self):
         names = [path.name for path in FILES]
-        for name in ("__init__.py", "errors.py", "blocks.py", "comparing.py"):
+        for name in ("__init__.py", "errors.py", "blocks.py", "comparing.py", "applying.py", "joining.py", "notes.py"):
             self.assertIn(name, names)
 
     def test_only_the_package_is_imported(self):
