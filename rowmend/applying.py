@@ -74,7 +74,7 @@ def heap_of(change):
     return heap
 
 
-# Takes so many lines of the block on top, and lays back what is left of it.
+# The blocks of two changes seldom end at the same line, so what is left of a block is laid back for the next step.
 def taken(heap, count):
     top = heap.pop()
     if top[0] == "keep":

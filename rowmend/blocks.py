@@ -5,14 +5,14 @@ def size_of(change):
     return sum([len(block[1]) + len(block[2]) for block in change if block[0] == "swap"])
 
 
-# How many lines a block has in the row ahead of the change.
+# Only these lines of a block stand in the row ahead of the change: what it puts is not there yet.
 def kept_and_cut(block):
     if block[0] == "keep":
         return block[1]
     return len(block[1])
 
 
-# How many lines a block has in the row behind the change.
+# Only these stand in the row behind the change: what it cuts is there no more.
 def kept_and_put(block):
     if block[0] == "keep":
         return block[1]
